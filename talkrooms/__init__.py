@@ -1,0 +1,1 @@
+"""Rooms to talk in."""

@@ -1,0 +1,121 @@
+"""Point 4: say."""
+
+import unittest
+
+from talkrooms.refusals import NOT_THERE
+from talkrooms.rooms import Room
+from talkrooms.talk import say as say_in_room
+from tests.lines import HUGE, LineCase, bring, found, leave, say
+
+
+class Texts(LineCase):
+    def test_lengths(self):
+        for length, wanted in ((0, -22), (1, 0), (2, 0), (255, 0), (256, 0), (257, -22), (400, -22)):
+            with self.subTest(length=length):
+                self.check([found(0, 0)], [(say(0, 0, 0, 0, [97] * length), wanted)])
+
+    def test_each_byte(self):
+        for byte in range(256):
+            wanted = 0 if 32 <= byte <= 126 else -22
+            with self.subTest(byte=byte):
+                for text in ([byte], [byte, 97], [97, byte], [97] * 255 + [byte], [97, byte, 97]):
+                    self.check([found(0, 0)], [(say(0, 0, 0, 0, text), wanted)])
+
+    def test_all_bytes_of_texts_together(self):
+        self.check([found(0, 0)], [(say(0, 0, 0, 0, range(32, 127)), 0), (say(0, 0, 0, 0, range(31, 127)), -22),
+                                   (say(0, 0, 0, 0, range(32, 128)), -22)])
+
+
+class Numbers(LineCase):
+    def test_from_0_on(self):
+        steps = [(say(k % 3, 0, 0), k) for k in range(12)]
+        self.check([found(0, 0)] + bring([1, 2]), steps)
+
+    def test_of_each_room_by_itself(self):
+        before = [found(0, 0), found(0, 0), found(1, 0)]
+        self.check(before, [(say(0, 0, 0), 0), (say(0, 0, 1), 0), (say(1, 1, 0), 0), (say(0, 0, 0), 1)])
+
+    def test_the_128th_and_the_one_behind(self):
+        before = [found(0, 1)] + bring([1]) + [say(0, 0, 0)] * 127
+        self.check(before, [(say(1, 0, 0), 127), (say(1, 0, 0), -28), (say(0, 0, 0), -28), (say(0, 0, 0, 128), -28)])
+
+    def test_full_room_leaves_others_free(self):
+        self.check([found(0, 1), found(0, 1)] + [say(0, 0, 0)] * 128, [(say(0, 0, 0), -28), (say(0, 0, 1), 0)])
+
+    def test_full_room_stays_full_whoever_leaves(self):
+        before = [found(0, 1)] + bring([1]) + [say(0, 0, 0)] * 128 + [leave(0, 0, 0)]
+        self.check(before, [(say(1, 0, 0), -28)])
+
+
+class Answering(LineCase):
+    def test_one_more_than_a_message(self):
+        before = [found(0, 0), say(0, 0, 0), say(0, 0, 0)]
+        self.check(before, [(say(0, 0, 0, 3), -61), (say(0, 0, 0, 1), 2), (say(0, 0, 0, 2), 3), (say(0, 0, 0, 4), 4),
+                            (say(0, 0, 0, 6), -61), (say(0, 0, 0, 5), 5), (say(0, 0, 0, 0), 6)])
+
+    def test_not_itself(self):
+        self.check([found(0, 0)], [(say(0, 0, 0, 1), -61), (say(0, 0, 0), 0), (say(0, 0, 0, 2), -61)])
+
+    def test_far_numbers(self):
+        before = [found(0, 0)] + [say(0, 0, 0)] * 2
+        self.check(before, [(say(0, 0, 0, k), -61) for k in (3, 127, 128, 129, 256, 257, 2147483649, HUGE)])
+
+    def test_what_others_said_and_who_left(self):
+        before = [found(0, 0)] + bring([1]) + [say(0, 0, 0), leave(0, 0, 0)]
+        self.check(before, [(say(1, 0, 0, 1), 1)])
+
+    def test_first_seen_and_the_one_before(self):
+        before = [found(0, 0)] + [say(0, 0, 0)] * 5 + bring([1]) + [say(0, 0, 0)]
+        self.check(before, [(say(1, 0, 0, 5), -61), (say(1, 0, 0, 6), 6), (say(1, 0, 0, 7), 7), (say(1, 0, 0, 9), -61)])
+
+    def test_seen_by_one_and_not_by_another(self):
+        before = [found(0, 0)] + bring([1]) + [say(0, 0, 0)] + bring([2])
+        self.check(before, [(say(2, 0, 0, 1), -61), (say(1, 0, 0, 1), 1), (say(0, 0, 0, 1), 2), (say(2, 0, 0, 2), 3)])
+
+    def test_messages_of_another_room(self):
+        self.check([found(0, 0), found(0, 0), say(0, 0, 0)], [(say(0, 0, 1, 1), -61), (say(0, 0, 0, 1), 1)])
+
+    def test_not_one_that_is_gone(self):
+        # No call of points 1 to 4 takes a message away, so the room itself is asked.
+        room = Room(1)
+        room.enter(0)
+        self.assertEqual([say_in_room(room, 0, 0, [97]), say_in_room(room, 0, 1, [98])], [0, 1])
+        room.messages[0].gone = True
+        self.assertEqual(say_in_room(room, 0, 1, [99]), NOT_THERE)
+        self.assertEqual(say_in_room(room, 0, 2, [99]), 2)
+
+
+class Order(LineCase):
+    def test_order_of_refusals(self):
+        before = [found(0, 0)] + bring([1]) + [say(0, 0, 0)] * 128
+        steps = [(say(0, 0, 0, 129, []), -22), (say(2, 0, 0, 129, []), -22), (say(2, 0, 0, 129), -2),
+                 (say(0, 0, 1, 129), -2), (say(0, 0, 0, 129), -61), (say(0, 0, 0, HUGE), -61), (say(0, 0, 0, 128), -28)]
+        self.check(before, steps)
+
+    def test_unseen_goes_before_full(self):
+        before = [found(0, 0)] + [say(0, 0, 0)] * 128 + bring([1])
+        self.check(before, [(say(1, 0, 0, 128), -61), (say(1, 0, 0, 0), -28)])
+
+
+class Kept(unittest.TestCase):
+    def test_what_a_message_holds(self):
+        room = Room(0)
+        room.enter(4)
+        say_in_room(room, 4, 0, [104, 105])
+        say_in_room(room, 4, 1, [33])
+        held = [(m.who, m.text, m.answered, m.gone) for m in room.messages]
+        self.assertEqual(held, [(4, [104, 105], 0, False), (4, [33], 1, False)])
+
+    def test_how_far_one_who_joins_has_read(self):
+        for shown, wanted in ((1, 0), (0, 2)):
+            with self.subTest(past=shown):
+                room = Room(shown)
+                room.enter(0)
+                say_in_room(room, 0, 0, [104])
+                say_in_room(room, 0, 0, [105])
+                room.enter(1)
+                self.assertEqual([(m.first, m.read) for m in room.members], [(0, 0), (wanted, wanted)])
+
+
+if __name__ == "__main__":
+    unittest.main()
