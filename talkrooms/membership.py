@@ -1,6 +1,6 @@
 """The calls by which rooms are founded, and people come into them, go, and keep them.
 
-Who calls has been checked before: each p is one of the people, and in the room, but for join.
+Each p is one of the people and, but for found and join, in the room: that has been checked before.
 """
 
 from talkrooms.refusals import ALREADY_SO, FULL, NOT_ALLOWED, NOT_THERE, UNKNOWN_ROOM
@@ -42,7 +42,8 @@ def join(room, p):
 def leave(room, p):
     room.forget(p)
     if len(room.members) > 0 and not any([member.keeper for member in room.members]):
-        room.members[0].keeper = True
+        heir = room.members[0]
+        heir.keeper = True
     return 0
 
 

@@ -112,6 +112,11 @@ class Forms(unittest.TestCase):
         values = {node.attr for name, node in nodes_of(ast.Attribute) if isinstance(node.ctx, ast.Store)}
         self.assertEqual(methods & values, set())
 
+    def test_values_are_given_through_a_plain_name(self):
+        for name, node in nodes_of(ast.Attribute):
+            if isinstance(node.ctx, ast.Store):
+                self.assertIsInstance(node.value, ast.Name, (name, node.lineno))
+
     def test_the_interface_is_a_plain_def(self):
         found = [(name, [arg.arg for arg in node.args.args], node.args.defaults)
                  for name, node in nodes_of(ast.FunctionDef) if node.name == "answers"]
