@@ -1,16 +1,35 @@
 """What is kept of rooms: who is in them, who is invited, and what was said there."""
 
+from talkrooms.texts import words_of
+
 PEOPLE = 16
+KINDS = 16
 
 
 class Message:
-    """What somebody said. answered is one more than the number of what it answers, or 0."""
+    """What somebody said. answered is one more than the number of what it answers, or 0.
+
+    Of each kind of mark stands who has set it.
+    """
 
     def __init__(self, who, text, answered):
         self.who = who
-        self.text = text
         self.answered = answered
+        self.changes = 0
         self.gone = False
+        self.text = text
+        self.words = words_of(text)
+        self.marks = [[] for kind in range(KINDS)]
+
+    def put_text(self, text):
+        """The words go with the text, so that nothing finds a message by what it said before."""
+        self.text = text
+        self.words = words_of(text)
+
+    def take_away(self):
+        self.gone = True
+        self.put_text([])
+        self.marks = [[] for kind in range(KINDS)]
 
 
 class Member:
@@ -66,6 +85,13 @@ class Room:
             return None
         return self.messages[m]
 
+    def standing_message(self, p, m):
+        """Message m, or None where p sees none or it is gone."""
+        message = self.seen_message(p, m)
+        if message is None or message.gone:
+            return None
+        return message
+
 
 class House:
     """All rooms: for each of the people those that they founded, by their numbers."""
@@ -81,3 +107,11 @@ class House:
         if founder >= PEOPLE or number >= len(self.founded[founder]):
             return None
         return self.founded[founder][number]
+
+    def all_rooms(self):
+        """Founder, number and room of each, by founders, then numbers."""
+        rows = []
+        for founder, theirs in enumerate(self.founded):
+            for number, room in enumerate(theirs):
+                rows.append((founder, number, room))
+        return rows

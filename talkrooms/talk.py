@@ -1,31 +1,51 @@
-"""The calls by which messages come about. Each p is in the room: that has been checked before."""
+"""The calls by which messages come about, change and go. Each p is in the room: that has been checked before."""
 
-from talkrooms.refusals import FULL, NOT_THERE
+from talkrooms.refusals import FULL, NOT_ALLOWED, NOT_THERE
 from talkrooms.rooms import Message
 
-LONGEST_TEXT = 256
-FIRST_BYTE = 32
-LAST_BYTE = 126
 MOST_MESSAGES = 128
-
-
-def is_text(text):
-    if len(text) < 1 or len(text) > LONGEST_TEXT:
-        return False
-    return all([FIRST_BYTE <= byte and byte <= LAST_BYTE for byte in text])
-
-
-def may_answer(room, p, answered):
-    if answered == 0:
-        return True
-    message = room.seen_message(p, answered - 1)
-    return message is not None and not message.gone
+MOST_CHANGES = 255
 
 
 def say(room, p, answered, text):
-    if not may_answer(room, p, answered):
+    if answered > 0 and room.standing_message(p, answered - 1) is None:
         return NOT_THERE
     if len(room.messages) >= MOST_MESSAGES:
         return FULL
     room.messages.append(Message(p, text, answered))
     return len(room.messages) - 1
+
+
+def change(room, p, m, text):
+    message = room.standing_message(p, m)
+    if message is None:
+        return NOT_THERE
+    if message.who != p:
+        return NOT_ALLOWED
+    if message.changes >= MOST_CHANGES:
+        return FULL
+    message.put_text(text)
+    message.changes = message.changes + 1
+    return 0
+
+
+def remove(room, p, m):
+    message = room.standing_message(p, m)
+    if message is None:
+        return NOT_THERE
+    if message.who != p and not room.is_keeper(p):
+        return NOT_ALLOWED
+    message.take_away()
+    return 0
+
+
+def mark(room, p, m, kind):
+    message = room.standing_message(p, m)
+    if message is None:
+        return NOT_THERE
+    markers = message.marks[kind]
+    if p in markers:
+        markers.remove(p)
+        return 0
+    markers.append(p)
+    return 1

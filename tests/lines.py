@@ -45,6 +45,53 @@ def say(p, founder, number, answered=0, text=LETTER):
     return [8, p, founder, number, answered, len(text)] + list(text)
 
 
+def change(p, founder, number, m, text=LETTER):
+    return [9, p, founder, number, m, len(text)] + list(text)
+
+
+def remove(p, founder, number, m):
+    return [10, p, founder, number, m]
+
+
+def mark(p, founder, number, m, kind):
+    return [11, p, founder, number, m, kind]
+
+
+def seen(p, founder, number, m):
+    return [12, p, founder, number, m]
+
+
+def read(p, founder, number, m):
+    return [13, p, founder, number, m]
+
+
+def unread(p, founder, number):
+    return [14, p, founder, number]
+
+
+def rooms(p, k):
+    return [15, p, k]
+
+
+def people(p, founder, number, k):
+    return [16, p, founder, number, k]
+
+
+def find(p, word, k=0):
+    return [17, p, k, len(word)] + list(word)
+
+
+def message(who, text=LETTER, answered=0, changed=0, marks=()):
+    """What read answers of a message; marks are pairs of a kind and how many there are of it."""
+    counts = [dict(marks).get(kind, 0) for kind in range(16)]
+    return [0] + counts + [who, answered, changed, 0] + list(text)
+
+
+def gone(who, answered=0, changed=0):
+    """What read answers of a message that is gone."""
+    return [0] * 17 + [who, answered, changed, 1]
+
+
 def line(calls):
     return [number for call in calls for number in call]
 
@@ -68,26 +115,37 @@ def bring(who, founder=0, number=0):
     return calls
 
 
+# How many numbers the calls answer that tell more than one, where they have something to tell.
+LENGTHS = {15: 5, 16: 3, 17: 4}
+
+
 class LineCase(unittest.TestCase):
     def ask(self, calls):
-        """What each call answers, begin being put ahead of them and its answer left away."""
+        """What each call answers, begin being put ahead of them and its answer left away.
+
+        One number stands by itself, several stand in a list.
+        """
         parts = split(answers(line([begin()] + calls)))
         self.assertEqual(len(parts), len(calls) + 1)
         self.assertEqual(parts[0], [0])
-        for part in parts:
-            self.assertEqual(len(part), 1)
-            self.assertIs(type(part[0]), int)
-        return [part[0] for part in parts[1:]]
+        for call, part in zip(calls, parts[1:]):
+            for number in part:
+                self.assertIs(type(number), int)
+            if call[0] == 13 and part[0] == 0:
+                self.assertGreaterEqual(len(part), 21)
+            else:
+                self.assertEqual(len(part), LENGTHS.get(call[0], 1) if part[0] > 0 else 1, (call, part))
+        return [part if len(part) > 1 else part[0] for part in parts[1:]]
 
     def same(self, told, wanted):
         # unittest's own comparison of long lists may take minutes to show how they differ.
         self.assertEqual(len(told), len(wanted))
-        for k, number in enumerate(wanted):
-            self.assertEqual(told[k], number, f"answer {k}")
+        for k, answer in enumerate(wanted):
+            self.assertEqual(told[k], answer, f"answer {k}")
 
     def check(self, before, steps):
         """steps are pairs of a call and its answer; all of before is to be taken, not refused."""
         told = self.ask(before + [call for call, wanted in steps])
-        for k, number in enumerate(told[:len(before)]):
-            self.assertGreaterEqual(number, 0, (k, before[k]))
+        for k, answer in enumerate(told[:len(before)]):
+            self.assertGreaterEqual(answer if isinstance(answer, int) else answer[0], 0, (k, before[k]))
         self.same(told[len(before):], [wanted for call, wanted in steps])

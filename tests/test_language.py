@@ -88,6 +88,39 @@ class Forms(unittest.TestCase):
             for alias in node.names:
                 self.assertIn(alias.name, own, name)
 
+    def test_no_two_files_draw_from_one_another(self):
+        drawn = {}
+        for name, node in nodes_of(ast.ImportFrom):
+            drawn.setdefault(name, set()).add(node.module.split(".")[-1] + ".py")
+        left = {path.name for path in FILES}
+        while left:
+            free = {name for name in left if not drawn.get(name, set()) & left}
+            self.assertTrue(free, left)
+            left -= free
+
+    def test_no_local_is_called_like_an_import_or_a_class(self):
+        for path in FILES:
+            tree = ast.parse(path.read_text())
+            taken = {alias.name for top in tree.body if isinstance(top, ast.ImportFrom) for alias in top.names}
+            taken |= {top.name for top in tree.body if isinstance(top, ast.ClassDef)}
+            for node in ast.walk(tree):
+                if isinstance(node, ast.arg):
+                    self.assertNotIn(node.arg, taken, (path.name, node.lineno))
+                if isinstance(node, ast.Name) and isinstance(node.ctx, ast.Store):
+                    self.assertNotIn(node.id, taken, (path.name, node.lineno))
+
+    def test_each_name_is_bound_once_at_the_top(self):
+        for path in FILES:
+            bound = []
+            for top in ast.parse(path.read_text()).body:
+                if isinstance(top, ast.ImportFrom):
+                    bound += [alias.name for alias in top.names]
+                elif isinstance(top, ast.Assign):
+                    bound.append(top.targets[0].id)
+                elif isinstance(top, (ast.FunctionDef, ast.ClassDef)):
+                    bound.append(top.name)
+            self.assertEqual(len(set(bound)), len(bound), path.name)
+
     def test_names(self):
         for name, node in nodes_of((ast.Name, ast.arg, ast.Attribute, ast.FunctionDef, ast.ClassDef)):
             word = getattr(node, "id", None) or getattr(node, "arg", None) or getattr(node, "attr", None)

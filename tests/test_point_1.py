@@ -2,7 +2,8 @@
 
 import unittest
 
-from tests.lines import HUGE, LineCase, begin, bring, found, invite, join, leave, lift, past, say
+from tests.lines import (HUGE, LineCase, begin, bring, change, find, found, invite, join, leave, lift, mark, message,
+                         past, people, read, rooms, say, seen, unread)
 
 
 class Begin(LineCase):
@@ -11,6 +12,17 @@ class Begin(LineCase):
         steps = [(begin(), 0), (say(0, 0, 0), -2), (say(1, 0, 0), -2), (join(2, 0, 0), -2), (leave(0, 0, 3), -2),
                  (found(0, 0), 0), (join(2, 0, 0), -2), (say(1, 0, 0), -2), (say(0, 0, 0, 1), -61),
                  (say(0, 0, 0), 0), (found(0, 0), 1), (found(0, 0), 2), (found(0, 0), 3), (found(0, 0), -28)]
+        self.check(before, steps)
+
+    def test_again_in_the_middle_nothing_is_told_of_what_was(self):
+        before = [found(0, 1)] + bring([1]) + [invite(0, 0, 0, 2), say(1, 0, 0), say(1, 0, 0), mark(0, 0, 0, 0, 3),
+                                               change(1, 0, 0, 0, b"b"), seen(0, 0, 0, 0)]
+        steps = [(begin(), 0)] + [(rooms(p, 0), 0) for p in range(3)] + [(find(p, b"b"), 0) for p in range(3)]
+        steps += [(read(0, 0, 0, 0), -2), (unread(0, 0, 0), -2), (people(0, 0, 0, 0), -2), (found(0, 1), 0),
+                  (rooms(0, 0), [1, 0, 0, 2, 0]), (rooms(0, 1), 0), (people(0, 0, 0, 0), [1, 0, 1]),
+                  (people(0, 0, 0, 1), 0), (read(0, 0, 0, 0), -61), (invite(0, 0, 0, 1), 0), (join(1, 0, 0), 0),
+                  (say(1, 0, 0, 0, b"c"), 0), (read(0, 0, 0, 0), message(1, b"c")), (unread(0, 0, 0), 1),
+                  (find(0, b"b"), 0), (find(0, b"c"), [1, 0, 0, 0]), (mark(0, 0, 0, 0, 3), 1)]
         self.check(before, steps)
 
     def test_for_every_founder(self):

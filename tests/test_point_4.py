@@ -2,10 +2,7 @@
 
 import unittest
 
-from talkrooms.refusals import NOT_THERE
-from talkrooms.rooms import Room
-from talkrooms.talk import say as say_in_room
-from tests.lines import HUGE, LineCase, bring, found, leave, say
+from tests.lines import HUGE, LineCase, bring, found, leave, message, read, remove, say
 
 
 class Texts(LineCase):
@@ -76,13 +73,8 @@ class Answering(LineCase):
         self.check([found(0, 0), found(0, 0), say(0, 0, 0)], [(say(0, 0, 1, 1), -61), (say(0, 0, 0, 1), 1)])
 
     def test_not_one_that_is_gone(self):
-        # No call of points 1 to 4 takes a message away, so the room itself is asked.
-        room = Room(1)
-        room.enter(0)
-        self.assertEqual([say_in_room(room, 0, 0, [97]), say_in_room(room, 0, 1, [98])], [0, 1])
-        room.messages[0].gone = True
-        self.assertEqual(say_in_room(room, 0, 1, [99]), NOT_THERE)
-        self.assertEqual(say_in_room(room, 0, 2, [99]), 2)
+        before = [found(0, 0), say(0, 0, 0), say(0, 0, 0, 1), remove(0, 0, 0, 0)]
+        self.check(before, [(say(0, 0, 0, 1), -61), (say(0, 0, 0, 2), 2), (say(0, 0, 0, 0), 3)])
 
 
 class Order(LineCase):
@@ -96,25 +88,15 @@ class Order(LineCase):
         before = [found(0, 0)] + [say(0, 0, 0)] * 128 + bring([1])
         self.check(before, [(say(1, 0, 0, 128), -61), (say(1, 0, 0, 0), -28)])
 
+    def test_gone_goes_before_full(self):
+        before = [found(0, 0)] + [say(0, 0, 0)] * 128 + [remove(0, 0, 0, 5)]
+        self.check(before, [(say(0, 0, 0, 6), -61), (say(0, 0, 0, 7), -28)])
 
-class Kept(unittest.TestCase):
+
+class Kept(LineCase):
     def test_what_a_message_holds(self):
-        room = Room(0)
-        room.enter(4)
-        say_in_room(room, 4, 0, [104, 105])
-        say_in_room(room, 4, 1, [33])
-        held = [(m.who, m.text, m.answered, m.gone) for m in room.messages]
-        self.assertEqual(held, [(4, [104, 105], 0, False), (4, [33], 1, False)])
-
-    def test_how_far_one_who_joins_has_read(self):
-        for shown, wanted in ((1, 0), (0, 2)):
-            with self.subTest(past=shown):
-                room = Room(shown)
-                room.enter(0)
-                say_in_room(room, 0, 0, [104])
-                say_in_room(room, 0, 0, [105])
-                room.enter(1)
-                self.assertEqual([(m.first, m.read) for m in room.members], [(0, 0), (wanted, wanted)])
+        before = [found(4, 0), say(4, 4, 0, 0, b"hi"), say(4, 4, 0, 1, b"!")]
+        self.check(before, [(read(4, 4, 0, 0), message(4, b"hi")), (read(4, 4, 0, 1), message(4, b"!", 1))])
 
 
 if __name__ == "__main__":
